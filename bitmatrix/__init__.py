@@ -1,0 +1,1 @@
+"""Matrices of doubles, to the bit: the calls stand in bitmatrix.desk."""

@@ -1,0 +1,42 @@
+"""The calls. Each answers a list: 0 and then what was made, or a refusal's number alone."""
+
+from bitmatrix.double import is_finite
+from bitmatrix.refusals import NotFinite, OutOfRange, Refusal
+from bitmatrix.tables import columns_of, decompose, joined, product_table, rows_of
+
+LARGEST_SIZE = 32
+
+
+def check_size(size):
+    if size < 1 or size > LARGEST_SIZE:
+        raise OutOfRange()
+
+
+def check_finite(numbers):
+    for x in numbers:
+        if not is_finite(x):
+            raise NotFinite()
+
+
+def product(n, m, k, a, b):
+    try:
+        check_size(n)
+        check_size(m)
+        check_size(k)
+        check_finite(a)
+        check_finite(b)
+        return [0] + product_table(rows_of(a, m), columns_of(b, k))
+    except Refusal as refusal:
+        return [refusal.number]
+
+
+def lu(n, a):
+    try:
+        check_size(n)
+        check_finite(a)
+        rows = rows_of(a, n)
+        order = list(range(n))
+        decompose(rows, order)
+        return [0] + joined(rows) + order
+    except Refusal as refusal:
+        return [refusal.number]

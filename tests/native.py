@@ -1,0 +1,124 @@
+"""The same calls on the machine's own doubles, written apart from the package, to compare with."""
+
+import math
+import random
+import struct
+
+WRONG_SIZES = (0, 33, -1, -2147483648, 2147483647)
+NOT_FINITE = (
+    0x7FF0000000000000, 0xFFF0000000000000,  # both infinities
+    0x7FF8000000000000, 0xFFF8000000000000,  # quiet NaNs
+    0x7FF0000000000001, 0xFFF0000000000001,  # signalling NaNs
+    0x7FFFFFFFFFFFFFFF, 0xFFFFFFFFFFFFFFFF,
+)
+NEGATIVE_ZERO = 0x8000000000000000
+LARGEST = 0x7FEFFFFFFFFFFFFF
+SMALLEST = 0x0000000000000001
+SMALLEST_NORMAL = 0x0010000000000000
+
+
+class Stop(Exception):
+    """Carries the refusal's number."""
+
+
+def bits(number):
+    return struct.unpack("<Q", struct.pack("<d", number))[0]
+
+
+def number(pattern):
+    return struct.unpack("<d", struct.pack("<Q", pattern))[0]
+
+
+def all_bits(numbers):
+    return [bits(float(x)) for x in numbers]
+
+
+def finite(x):
+    if not math.isfinite(x):
+        raise Stop(-1)
+    return x
+
+
+def product(n, m, k, a, b):
+    a, b = [number(x) for x in a], [number(x) for x in b]
+    try:
+        answer = [0]
+        for i in range(n):
+            for j in range(k):
+                total = None
+                for t in range(m):
+                    part = finite(a[i * m + t] * b[t * k + j])
+                    total = part if total is None else finite(total + part)
+                answer.append(bits(total))
+        return answer
+    except Stop as stop:
+        return [stop.args[0]]
+
+
+def lu(n, a):
+    a = [number(x) for x in a]
+    order = list(range(n))
+    try:
+        for c in range(n):
+            sizes = [abs(a[r * n + c]) for r in range(c, n)]
+            if max(sizes) == 0:
+                raise Stop(-2)
+            p = c + sizes.index(max(sizes))
+            for j in range(n):
+                a[c * n + j], a[p * n + j] = a[p * n + j], a[c * n + j]
+            order[c], order[p] = order[p], order[c]
+            for r in range(c + 1, n):
+                a[r * n + c] = finite(a[r * n + c] / a[c * n + c])
+                for j in range(c + 1, n):
+                    a[r * n + j] = finite(a[r * n + j] - finite(a[r * n + c] * a[c * n + j]))
+        return [0] + [bits(x) for x in a] + order
+    except Stop as stop:
+        return [stop.args[0]]
+
+
+EDGES = (
+    0, SMALLEST, 2, 3, SMALLEST_NORMAL - 1, SMALLEST_NORMAL, SMALLEST_NORMAL + 1, 0x0020000000000000,
+    0x1FF0000000000000, 0x1FF0000000000001, 0x2000000000000000, 0x3CA0000000000000, 0x3CA0000000000001,
+    0x3FE0000000000000, 0x3FEFFFFFFFFFFFFF, 0x3FF0000000000000, 0x3FF0000000000001, 0x3FF8000000000000,
+    0x4000000000000000, 0x4008000000000000, 0x4340000000000000, 0x433FFFFFFFFFFFFF, 0x5FEFFFFFFFFFFFFF,
+    0x5FF0000000000000, 0x7C90000000000000, 0x7C9FFFFFFFFFFFFF, 0x7CA0000000000000, 0x7FE0000000000000,
+    LARGEST - 1, LARGEST,
+)
+
+
+def any_double(source):
+    """Any finite double: all exponents alike, and now and then an edge or few bits."""
+    sign = source.getrandbits(1) << 63
+    kind = source.randrange(4)
+    if kind == 0:
+        return sign | source.choice(EDGES)
+    field = source.randrange(2047) << 52
+    if kind == 1:
+        return sign | field | (source.getrandbits(3) << source.randrange(50))
+    return sign | field | source.getrandbits(52)
+
+
+def double_between(source, low, high):
+    """A double whose exponent field is from low to high; 1's is 1023."""
+    field = source.randint(low, high) << 52
+    return (source.getrandbits(1) << 63) | field | source.getrandbits(52)
+
+
+def near_double(source, spread):
+    """A double whose exponent is within spread of 1's."""
+    return double_between(source, 1023 - spread, 1023 + spread)
+
+
+def large_or_small(source):
+    """A double of few, so that sums end just about the largest or at 0."""
+    size = source.choice((0, bits(0.5), bits(1.0), 0x7C90000000000000, 0x7FE0000000000000, LARGEST))
+    return (source.getrandbits(1) << 63) | size
+
+
+def small_whole(source):
+    """A whole number from -3 to 3, both zeros among them."""
+    return bits(source.choice((-3.0, -2.0, -1.0, -0.0, 0.0, 1.0, 2.0, 3.0)))
+
+
+def seeded(seed):
+    return random.Random(seed)
