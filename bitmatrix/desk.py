@@ -1,8 +1,9 @@
 """The calls. Each answers a list: 0 and then what was made, or a refusal's number alone."""
 
-from bitmatrix.double import is_finite
+from bitmatrix.double import is_finite, size_of
 from bitmatrix.refusals import NotFinite, OutOfRange, Refusal
-from bitmatrix.tables import columns_of, decompose, joined, product_table, rows_of
+from bitmatrix.tables import columns_of, joined, product_table, rows_of
+from bitmatrix.triangles import decompose, determinant, solution
 
 LARGEST_SIZE = 32
 
@@ -16,6 +17,17 @@ def check_finite(numbers):
     for x in numbers:
         if not is_finite(x):
             raise NotFinite()
+
+
+def check_order(order, n):
+    if sorted(order) != list(range(n)):
+        raise OutOfRange()
+
+
+def check_diagonal(rows):
+    for i in range(len(rows)):
+        if size_of(rows[i][i]) == 0:
+            raise OutOfRange()
 
 
 def product(n, m, k, a, b):
@@ -38,5 +50,28 @@ def lu(n, a):
         order = list(range(n))
         decompose(rows, order)
         return [0] + joined(rows) + order
+    except Refusal as refusal:
+        return [refusal.number]
+
+
+def solve(n, a, order, b):
+    try:
+        check_size(n)
+        check_finite(a)
+        check_finite(b)
+        check_order(order, n)
+        rows = rows_of(a, n)
+        check_diagonal(rows)
+        return [0] + solution(rows, order, b)
+    except Refusal as refusal:
+        return [refusal.number]
+
+
+def det(n, a, order):
+    try:
+        check_size(n)
+        check_finite(a)
+        check_order(order, n)
+        return [0, determinant(rows_of(a, n), order)]
     except Refusal as refusal:
         return [refusal.number]

@@ -28,6 +28,11 @@ def is_finite(x):
     return (x & UNSIGNED) < INFINITE
 
 
+def negated(x):
+    """The double with its sign turned: 0 has one too."""
+    return x ^ SIGN
+
+
 def whole_of(x):
     """The whole without its sign."""
     if x & INFINITE:
@@ -73,7 +78,7 @@ def add(x, y):
 
 
 def subtract(x, y):
-    return add(x, y ^ SIGN)
+    return add(x, negated(y))
 
 
 def multiply(x, y):

@@ -22,8 +22,8 @@ class NotFinite(Refusal):
         Refusal.__init__(self, -1)
 
 
-class NoPivot(Refusal):
-    """A column has nothing but zeros to go by."""
+class Degenerate(Refusal):
+    """What a column is to be divided by is 0, or is to be a root and isn't above 0."""
 
     def __init__(self):
         Refusal.__init__(self, -2)

@@ -1,7 +1,6 @@
-"""What is made of tables, step by step; sizes and doubles are looked at before."""
+"""Tables and rows of doubles, and the runs of steps that several calls make with them."""
 
-from bitmatrix.double import add, divide, multiply, size_of, subtract
-from bitmatrix.refusals import NoPivot
+from bitmatrix.double import add, multiply, subtract
 
 
 def rows_of(numbers, width):
@@ -27,44 +26,22 @@ def sum_of_products(xs, ys):
     return total
 
 
+def less_products(start, xs, ys):
+    """The start, less the products of both rows, one after another."""
+    rest = start
+    for i in range(len(xs)):
+        rest = subtract(rest, multiply(xs[i], ys[i]))
+    return rest
+
+
+def less_scaled(xs, factor, ys):
+    """Each number of the first row, less the factor times that of the second."""
+    return [subtract(xs[i], multiply(factor, ys[i])) for i in range(len(xs))]
+
+
 def product_table(rows, columns):
     numbers = []
     for row in rows:
         for column in columns:
             numbers.append(sum_of_products(row, column))
     return numbers
-
-
-def pivot_index(rows, c):
-    """The first row from c on whose number in column c is greatest, its sign aside."""
-    best = c
-    for r in range(c + 1, len(rows)):
-        if size_of(rows[r][c]) > size_of(rows[best][c]):
-            best = r
-    if size_of(rows[best][c]) == 0:
-        raise NoPivot()
-    return best
-
-
-def exchange(xs, i, j):
-    kept = xs[i]
-    xs[i] = xs[j]
-    xs[j] = kept
-
-
-def reduced(row, pivot_row, c):
-    """The row with its factor kept in column c, and that times the pivot row taken behind it."""
-    factor = divide(row[c], pivot_row[c])
-    # A factor of 0 is not passed over: its products may still turn the sign of a zero.
-    behind = [subtract(row[j], multiply(factor, pivot_row[j])) for j in range(c + 1, len(row))]
-    return row[:c] + [factor] + behind
-
-
-def decompose(rows, order):
-    """Makes the rows into both triangular parts, and lets order go along with them."""
-    for c in range(len(rows)):
-        pivot = pivot_index(rows, c)
-        exchange(rows, c, pivot)
-        exchange(order, c, pivot)
-        for r in range(c + 1, len(rows)):
-            rows[r] = reduced(rows[r], rows[c], c)

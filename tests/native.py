@@ -1,5 +1,6 @@
 """The same calls on the machine's own doubles, written apart from the package, to compare with."""
 
+import functools
 import math
 import random
 import struct
@@ -33,47 +34,111 @@ def all_bits(numbers):
     return [bits(float(x)) for x in numbers]
 
 
+def all_numbers(patterns):
+    return [number(x) for x in patterns]
+
+
 def finite(x):
     if not math.isfinite(x):
         raise Stop(-1)
     return x
 
 
+def quotient(x, y):
+    if y == 0:
+        raise Stop(-1)
+    return finite(x / y)
+
+
+def less(start, factors, others):
+    """The start less each product, one after another."""
+    for x, y in zip(factors, others, strict=True):
+        start = finite(start - finite(x * y))
+    return start
+
+
+def refusing(call):
+    @functools.wraps(call)
+    def answer(*arguments):
+        try:
+            return [0] + call(*arguments)
+        except Stop as stop:
+            return [stop.args[0]]
+    return answer
+
+
+@refusing
 def product(n, m, k, a, b):
-    a, b = [number(x) for x in a], [number(x) for x in b]
-    try:
-        answer = [0]
-        for i in range(n):
-            for j in range(k):
-                total = None
-                for t in range(m):
-                    part = finite(a[i * m + t] * b[t * k + j])
-                    total = part if total is None else finite(total + part)
-                answer.append(bits(total))
-        return answer
-    except Stop as stop:
-        return [stop.args[0]]
+    a, b = all_numbers(a), all_numbers(b)
+    answer = []
+    for i in range(n):
+        for j in range(k):
+            total = None
+            for t in range(m):
+                part = finite(a[i * m + t] * b[t * k + j])
+                total = part if total is None else finite(total + part)
+            answer.append(bits(total))
+    return answer
 
 
+@refusing
 def lu(n, a):
-    a = [number(x) for x in a]
+    a = all_numbers(a)
     order = list(range(n))
-    try:
-        for c in range(n):
-            sizes = [abs(a[r * n + c]) for r in range(c, n)]
-            if max(sizes) == 0:
-                raise Stop(-2)
-            p = c + sizes.index(max(sizes))
-            for j in range(n):
-                a[c * n + j], a[p * n + j] = a[p * n + j], a[c * n + j]
-            order[c], order[p] = order[p], order[c]
-            for r in range(c + 1, n):
-                a[r * n + c] = finite(a[r * n + c] / a[c * n + c])
-                for j in range(c + 1, n):
-                    a[r * n + j] = finite(a[r * n + j] - finite(a[r * n + c] * a[c * n + j]))
-        return [0] + [bits(x) for x in a] + order
-    except Stop as stop:
-        return [stop.args[0]]
+    for c in range(n):
+        sizes = [abs(a[r * n + c]) for r in range(c, n)]
+        if max(sizes) == 0:
+            raise Stop(-2)
+        p = c + sizes.index(max(sizes))
+        for j in range(n):
+            a[c * n + j], a[p * n + j] = a[p * n + j], a[c * n + j]
+        order[c], order[p] = order[p], order[c]
+        for r in range(c + 1, n):
+            a[r * n + c] = finite(a[r * n + c] / a[c * n + c])
+            for j in range(c + 1, n):
+                a[r * n + j] = finite(a[r * n + j] - finite(a[r * n + c] * a[c * n + j]))
+    return all_bits(a) + order
+
+
+def from_the_bottom(n, a, y):
+    x = [None] * n
+    for i in reversed(range(n)):
+        x[i] = quotient(less(y[i], a[i * n + i + 1:i * n + n], x[i + 1:]), a[i * n + i])
+    return x
+
+
+def need_order(n, order):
+    if {i: order.count(i) for i in order} != {i: 1 for i in range(n)}:
+        raise Stop(-8)
+
+
+@refusing
+def solve(n, a, order, b):
+    a, b = all_numbers(a), all_numbers(b)
+    need_order(n, order)
+    if 0 in a[::n + 1]:
+        raise Stop(-8)
+    y = []
+    for i in range(n):
+        y.append(less(b[order[i]], a[i * n:i * n + i], y))
+    return all_bits(from_the_bottom(n, a, y))
+
+
+@refusing
+def det(n, a, order):
+    a = all_numbers(a)
+    need_order(n, order)
+    total = a[0]
+    for i in range(1, n):
+        total = finite(total * a[i * n + i])
+    # Each exchange of two neighbours puts one pair right.
+    order = list(order)
+    for end in range(n):
+        for i in range(n - 1 - end):
+            if order[i] > order[i + 1]:
+                order[i], order[i + 1] = order[i + 1], order[i]
+                total = -total
+    return [bits(total)]
 
 
 EDGES = (

@@ -4,6 +4,7 @@ import unittest
 
 from bitmatrix.desk import lu
 from tests import native
+from tests.checks import check_kind, check_pure
 from tests.native import LARGEST, NEGATIVE_ZERO, NOT_FINITE, SMALLEST, WRONG_SIZES, all_bits, bits, seeded
 
 
@@ -244,19 +245,11 @@ class Callers(unittest.TestCase):
             (33, []),
         )
         for n, a in tables:
-            before = list(a)
-            first = lu(n, a)
-            self.assertEqual(a, before)
-            kept = list(first)
-            first.append(7)
-            self.assertEqual(lu(n, a), kept)
-            self.assertEqual(a, before)
+            check_pure(self, lu, n, a)
 
     def test_the_answer_is_a_list_of_whole_numbers(self):
         for answer in (lu(1, [bits(1.0)]), lu(1, [0]), lu(0, [])):
-            self.assertIs(type(answer), list)
-            for x in answer:
-                self.assertIs(type(x), int)
+            check_kind(self, answer)
 
 
 if __name__ == "__main__":

@@ -4,6 +4,7 @@ import unittest
 
 from bitmatrix.desk import product
 from tests import native
+from tests.checks import check_kind, check_pure
 from tests.native import (
     LARGEST, NEGATIVE_ZERO, NOT_FINITE, SMALLEST, SMALLEST_NORMAL, WRONG_SIZES, all_bits, bits, seeded,
 )
@@ -185,13 +186,7 @@ class Callers(unittest.TestCase):
         b = table(source, native.small_whole, 8)
         refused = all_bits([1, 2, 3]) + [LARGEST]
         for arguments in ((3, 4, 2, a, b), (2, 2, 2, refused, refused), (0, 2, 2, [], b[:4]), (1, 1, 1, [0], [0])):
-            before = [list(x) if isinstance(x, list) else x for x in arguments]
-            first = product(*arguments)
-            self.assertEqual(list(arguments), before)
-            kept = list(first)
-            first.append(7)
-            self.assertEqual(product(*arguments), kept)
-            self.assertEqual(list(arguments), before)
+            check_pure(self, product, *arguments)
 
     def test_both_lists_may_be_the_same_one(self):
         a = all_bits([1, 2, 3, 4])
@@ -200,9 +195,7 @@ class Callers(unittest.TestCase):
 
     def test_the_answer_is_a_list_of_whole_numbers(self):
         for answer in (product(1, 1, 1, [0], [0]), product(0, 1, 1, [], [0])):
-            self.assertIs(type(answer), list)
-            for x in answer:
-                self.assertIs(type(x), int)
+            check_kind(self, answer)
 
 
 if __name__ == "__main__":
