@@ -2,8 +2,8 @@
 
 from bitmatrix.double import is_finite, size_of
 from bitmatrix.refusals import NotFinite, OutOfRange, Refusal
-from bitmatrix.tables import columns_of, joined, product_table, rows_of
-from bitmatrix.triangles import decompose, determinant, solution
+from bitmatrix.tables import columns_of, joined, product_table, rows_of, turned_about
+from bitmatrix.triangles import cholesky_rows, decompose, determinant, inverse_columns, solution
 
 LARGEST_SIZE = 32
 
@@ -28,6 +28,12 @@ def check_diagonal(rows):
     for i in range(len(rows)):
         if size_of(rows[i][i]) == 0:
             raise OutOfRange()
+
+
+def check_same_turned_about(rows):
+    # By their bits: 0 and -0 are not the same.
+    if turned_about(rows) != rows:
+        raise OutOfRange()
 
 
 def product(n, m, k, a, b):
@@ -73,5 +79,28 @@ def det(n, a, order):
         check_finite(a)
         check_order(order, n)
         return [0, determinant(rows_of(a, n), order)]
+    except Refusal as refusal:
+        return [refusal.number]
+
+
+def inverse(n, a):
+    try:
+        check_size(n)
+        check_finite(a)
+        rows = rows_of(a, n)
+        order = list(range(n))
+        decompose(rows, order)
+        return [0] + joined(turned_about(inverse_columns(rows, order)))
+    except Refusal as refusal:
+        return [refusal.number]
+
+
+def cholesky(n, a):
+    try:
+        check_size(n)
+        check_finite(a)
+        rows = rows_of(a, n)
+        check_same_turned_about(rows)
+        return [0] + joined(cholesky_rows(rows))
     except Refusal as refusal:
         return [refusal.number]

@@ -13,10 +13,13 @@ UNSIGNED = 0x7FFFFFFFFFFFFFFF
 INFINITE = 0x7FF0000000000000
 FRACTION = 0x000FFFFFFFFFFFFF
 LEADING = 0x0010000000000000
-# 1 is the whole 1 at this place.
+ONE = 0x3FF0000000000000
+# ONE is the whole 1 at this place.
 UNIT_PLACE = 1074
 # A quotient of wholes has then at least 58 bits: the last one lies below the half that decides.
 QUOTIENT_SHIFT = 110
+# A root of wholes has then at least 56 bits, likewise.
+ROOT_SHIFT = 110
 
 
 def size_of(x):
@@ -26,6 +29,10 @@ def size_of(x):
 
 def is_finite(x):
     return (x & UNSIGNED) < INFINITE
+
+
+def is_above_zero(x):
+    return 0 < x < SIGN
 
 
 def negated(x):
@@ -97,3 +104,29 @@ def divide(x, y):
         quotient = quotient | 1
     place = place_of(x) - place_of(y) + UNIT_PLACE - QUOTIENT_SHIFT
     return ((x ^ y) & SIGN) | rounded(quotient, place)
+
+
+def whole_root(number):
+    """The greatest whole number whose square is not above the number, which is from 1 on."""
+    # Begun at or above the root, each guess comes nearer until it has come to it.
+    guess = 1 << ((number.bit_length() + 1) // 2)
+    better = (guess + number // guess) // 2
+    while better < guess:
+        guess = better
+        better = (guess + number // guess) // 2
+    return guess
+
+
+def root(x):
+    if size_of(x) == 0:
+        return x
+    if x & SIGN:
+        raise NotFinite()
+    # The place is halved, so it has to be even; UNIT_PLACE is.
+    shift = ROOT_SHIFT + (place_of(x) & 1)
+    square = whole_of(x) << shift
+    whole = whole_root(square)
+    if whole * whole != square:
+        # As in a quotient.
+        whole = whole | 1
+    return rounded(whole, (place_of(x) - shift + UNIT_PLACE) // 2)

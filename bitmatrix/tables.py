@@ -1,6 +1,6 @@
 """Tables and rows of doubles, and the runs of steps that several calls make with them."""
 
-from bitmatrix.double import add, multiply, subtract
+from bitmatrix.double import ONE, add, multiply, subtract
 
 
 def rows_of(numbers, width):
@@ -11,11 +11,27 @@ def columns_of(numbers, width):
     return [numbers[start::width] for start in range(width)]
 
 
+def zero_rows(n):
+    return [[0] * n for i in range(n)]
+
+
+def unit_rows(n):
+    rows = zero_rows(n)
+    for i in range(n):
+        rows[i][i] = ONE
+    return rows
+
+
 def joined(rows):
     numbers = []
     for row in rows:
         numbers.extend(row)
     return numbers
+
+
+def turned_about(rows):
+    """The table whose rows are the columns of this one."""
+    return columns_of(joined(rows), len(rows[0]))
 
 
 def sum_of_products(xs, ys):

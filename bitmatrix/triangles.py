@@ -1,8 +1,8 @@
-"""What is made with triangular parts: lu, and what is solved and told by it."""
+"""What is made with triangular parts: lu, what is solved and told by it, and cholesky."""
 
-from bitmatrix.double import divide, multiply, negated, size_of
+from bitmatrix.double import divide, is_above_zero, multiply, negated, root, size_of
 from bitmatrix.refusals import Degenerate
-from bitmatrix.tables import less_products, less_scaled
+from bitmatrix.tables import less_products, less_scaled, unit_rows, zero_rows
 
 
 def pivot_index(rows, c):
@@ -75,3 +75,26 @@ def determinant(rows, order):
     for i in range(1, len(rows)):
         total = multiply(total, rows[i][i])
     return negated(total) if turns_sign(order) else total
+
+
+def inverse_columns(rows, order):
+    """The solutions for the columns of the unit table."""
+    return [solution(rows, order, column) for column in unit_rows(len(rows))]
+
+
+def diagonal_root(number, made):
+    """The root of the number, less the squares of what was made so far in its row."""
+    square = less_products(number, made, made)
+    if not is_above_zero(square):
+        raise Degenerate()
+    return root(square)
+
+
+def cholesky_rows(rows):
+    lower = zero_rows(len(rows))
+    for c in range(len(rows)):
+        lower[c][c] = diagonal_root(rows[c][c], lower[c][:c])
+        for r in range(c + 1, len(rows)):
+            rest = less_products(rows[r][c], lower[r][:c], lower[c][:c])
+            lower[r][c] = divide(rest, lower[c][c])
+    return lower

@@ -141,6 +141,49 @@ def det(n, a, order):
     return [bits(total)]
 
 
+def root(x):
+    if x < 0:
+        raise Stop(-1)
+    return math.sqrt(x)
+
+
+@refusing
+def inverse(n, a):
+    parts = lu(n, a)
+    if parts[0] != 0:
+        raise Stop(parts[0])
+    answer = [None] * (n * n)
+    for j in range(n):
+        column = solve(n, parts[1:n * n + 1], parts[n * n + 1:], [bits(float(i == j)) for i in range(n)])
+        if column[0] != 0:
+            raise Stop(column[0])
+        answer[j::n] = column[1:]
+    return answer
+
+
+def need_same_turned_about(n, a):
+    for i in range(n):
+        for j in range(n):
+            if a[i * n + j] != a[j * n + i]:
+                raise Stop(-8)
+
+
+@refusing
+def cholesky(n, a):
+    need_same_turned_about(n, a)
+    a = all_numbers(a)
+    made = {}
+    for c in range(n):
+        square = less(a[c * n + c], [made[c, k] for k in range(c)], [made[c, k] for k in range(c)])
+        if not square > 0:
+            raise Stop(-2)
+        made[c, c] = root(square)
+        for r in range(c + 1, n):
+            rest = less(a[r * n + c], [made[r, k] for k in range(c)], [made[c, k] for k in range(c)])
+            made[r, c] = quotient(rest, made[c, c])
+    return [bits(made.get((i, j), 0.0)) for i in range(n) for j in range(n)]
+
+
 EDGES = (
     0, SMALLEST, 2, 3, SMALLEST_NORMAL - 1, SMALLEST_NORMAL, SMALLEST_NORMAL + 1, 0x0020000000000000,
     0x1FF0000000000000, 0x1FF0000000000001, 0x2000000000000000, 0x3CA0000000000000, 0x3CA0000000000001,
@@ -172,6 +215,11 @@ def double_between(source, low, high):
 def near_double(source, spread):
     """A double whose exponent is within spread of 1's."""
     return double_between(source, 1023 - spread, 1023 + spread)
+
+
+def near_double_or_zero(source):
+    """A double near 1, or 0 of either sign."""
+    return near_double(source, 4) if source.randrange(4) else source.getrandbits(1) << 63
 
 
 def large_or_small(source):
