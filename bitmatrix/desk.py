@@ -1,5 +1,6 @@
 """The calls. Each answers a list: 0 and then what was made, or a refusal's number alone."""
 
+from bitmatrix.columns import least_solution, make_upright
 from bitmatrix.double import is_finite, size_of
 from bitmatrix.refusals import NotFinite, OutOfRange, Refusal
 from bitmatrix.tables import columns_of, joined, product_table, rows_of, turned_about
@@ -10,6 +11,13 @@ LARGEST_SIZE = 32
 
 def check_size(size):
     if size < 1 or size > LARGEST_SIZE:
+        raise OutOfRange()
+
+
+def check_tall(m, n):
+    check_size(m)
+    check_size(n)
+    if m < n:
         raise OutOfRange()
 
 
@@ -102,5 +110,26 @@ def cholesky(n, a):
         rows = rows_of(a, n)
         check_same_turned_about(rows)
         return [0] + joined(cholesky_rows(rows))
+    except Refusal as refusal:
+        return [refusal.number]
+
+
+def upright(m, n, a):
+    try:
+        check_tall(m, n)
+        check_finite(a)
+        columns = columns_of(a, n)
+        rows = make_upright(columns)
+        return [0] + joined(turned_about(columns)) + joined(rows)
+    except Refusal as refusal:
+        return [refusal.number]
+
+
+def least(m, n, a, b):
+    try:
+        check_tall(m, n)
+        check_finite(a)
+        check_finite(b)
+        return [0] + least_solution(columns_of(a, n), b)
     except Refusal as refusal:
         return [refusal.number]

@@ -184,6 +184,53 @@ def cholesky(n, a):
     return [bits(made.get((i, j), 0.0)) for i in range(n) for j in range(n)]
 
 
+def dot(xs, ys):
+    parts = []
+    for x, y in zip(xs, ys, strict=True):
+        part = finite(x * y)
+        parts.append(finite(parts[-1] + part) if parts else part)
+    return parts[-1]
+
+
+def upright_parts(m, n, a):
+    """q by columns and r by rows, as numbers."""
+    if m < n:
+        raise Stop(-8)
+    a = all_numbers(a)
+    q = [[a[i * n + j] for i in range(m)] for j in range(n)]
+    r = [[0.0] * n for _ in range(n)]
+    for c in range(n):
+        square = dot(q[c], q[c])
+        if square == 0:
+            raise Stop(-2)
+        r[c][c] = root(square)
+        for i in range(m):
+            q[c][i] = quotient(q[c][i], r[c][c])
+        for j in range(c + 1, n):
+            r[c][j] = dot(q[c], q[j])
+            for i in range(m):
+                q[j][i] = finite(q[j][i] - finite(r[c][j] * q[c][i]))
+    return q, r
+
+
+@refusing
+def upright(m, n, a):
+    q, r = upright_parts(m, n, a)
+    return [bits(q[j][i]) for i in range(m) for j in range(n)] + [bits(x) for row in r for x in row]
+
+
+@refusing
+def least(m, n, a, b):
+    q, r = upright_parts(m, n, a)
+    b = all_numbers(b)
+    sums = []
+    for column in q:
+        sums.append(dot(column, b))
+        for i in range(m):
+            b[i] = finite(b[i] - finite(sums[-1] * column[i]))
+    return all_bits(from_the_bottom(n, [x for row in r for x in row], sums))
+
+
 EDGES = (
     0, SMALLEST, 2, 3, SMALLEST_NORMAL - 1, SMALLEST_NORMAL, SMALLEST_NORMAL + 1, 0x0020000000000000,
     0x1FF0000000000000, 0x1FF0000000000001, 0x2000000000000000, 0x3CA0000000000000, 0x3CA0000000000001,
