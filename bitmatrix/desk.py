@@ -1,16 +1,24 @@
 """The calls. Each answers a list: 0 and then what was made, or a refusal's number alone."""
 
 from bitmatrix.columns import least_solution, make_upright
-from bitmatrix.double import is_finite, size_of
+from bitmatrix.double import is_finite, is_less, size_of
 from bitmatrix.refusals import NotFinite, OutOfRange, Refusal
+from bitmatrix.splines import second_derivatives
 from bitmatrix.tables import columns_of, joined, product_table, rows_of, turned_about
 from bitmatrix.triangles import cholesky_rows, decompose, determinant, inverse_columns, solution
+from bitmatrix.turns import turn_all
 
 LARGEST_SIZE = 32
+LARGEST_ROUNDS = 64
 
 
-def check_size(size):
-    if size < 1 or size > LARGEST_SIZE:
+def check_size(size, smallest=1):
+    if size < smallest or size > LARGEST_SIZE:
+        raise OutOfRange()
+
+
+def check_rounds(rounds):
+    if rounds < 0 or rounds > LARGEST_ROUNDS:
         raise OutOfRange()
 
 
@@ -42,6 +50,12 @@ def check_same_turned_about(rows):
     # By their bits: 0 and -0 are not the same.
     if turned_about(rows) != rows:
         raise OutOfRange()
+
+
+def check_rising(x):
+    for i in range(1, len(x)):
+        if not is_less(x[i - 1], x[i]):
+            raise OutOfRange()
 
 
 def product(n, m, k, a, b):
@@ -131,5 +145,29 @@ def least(m, n, a, b):
         check_finite(a)
         check_finite(b)
         return [0] + least_solution(columns_of(a, n), b)
+    except Refusal as refusal:
+        return [refusal.number]
+
+
+def jacobi(n, rounds, a):
+    try:
+        check_size(n)
+        check_rounds(rounds)
+        check_finite(a)
+        rows = rows_of(a, n)
+        check_same_turned_about(rows)
+        vectors = turn_all(rows, rounds)
+        return [0] + [rows[i][i] for i in range(n)] + joined(turned_about(vectors))
+    except Refusal as refusal:
+        return [refusal.number]
+
+
+def spline(n, x, y):
+    try:
+        check_size(n, 2)
+        check_finite(x)
+        check_finite(y)
+        check_rising(x)
+        return [0] + second_derivatives(x, y)
     except Refusal as refusal:
         return [refusal.number]

@@ -14,6 +14,7 @@ INFINITE = 0x7FF0000000000000
 FRACTION = 0x000FFFFFFFFFFFFF
 LEADING = 0x0010000000000000
 ONE = 0x3FF0000000000000
+TWO = 0x4000000000000000
 # ONE is the whole 1 at this place.
 UNIT_PLACE = 1074
 # A quotient of wholes has then at least 58 bits: the last one lies below the half that decides.
@@ -33,6 +34,15 @@ def is_finite(x):
 
 def is_above_zero(x):
     return 0 < x < SIGN
+
+
+def rank_of(x):
+    """A whole number; they compare as their doubles do, and both zeros have the same."""
+    return -(x & UNSIGNED) if x & SIGN else x
+
+
+def is_less(x, y):
+    return rank_of(x) < rank_of(y)
 
 
 def negated(x):
@@ -56,7 +66,9 @@ def rounded(whole, place):
     """The double nearest to whole times two to the place, without a sign; place may be below 0."""
     if whole == 0:
         return 0
-    drop = max(whole.bit_length() - 53, -place)
+    drop = whole.bit_length() - 53
+    if drop < -place:
+        drop = -place
     if drop > 0:
         # Just under a half is put on, or just a half where that makes an odd number even.
         odd = (whole >> drop) & 1
@@ -72,7 +84,7 @@ def rounded(whole, place):
 def add(x, y):
     x_place = place_of(x)
     y_place = place_of(y)
-    place = min(x_place, y_place)
+    place = x_place if x_place < y_place else y_place
     x_whole = whole_of(x) << (x_place - place)
     y_whole = whole_of(y) << (y_place - place)
     total = (-x_whole if x & SIGN else x_whole) + (-y_whole if y & SIGN else y_whole)
@@ -85,7 +97,7 @@ def add(x, y):
 
 
 def subtract(x, y):
-    return add(x, negated(y))
+    return add(x, y ^ SIGN)
 
 
 def multiply(x, y):

@@ -56,3 +56,9 @@ def placed(numbers, place, other):
 
 def drawn(source, draw, count):
     return [draw(source) for _ in range(count)]
+
+
+def same_turned_about(n, below):
+    """A table from its rows up to the diagonal."""
+    at = {(i, j): below[i * (i + 1) // 2 + j] for i in range(n) for j in range(i + 1)}
+    return [at[max(i, j), min(i, j)] for i in range(n) for j in range(n)]

@@ -231,6 +231,61 @@ def least(m, n, a, b):
     return all_bits(from_the_bottom(n, [x for row in r for x in row], sums))
 
 
+def turned_pair(x, y, c, s):
+    first = finite(finite(c * x) - finite(s * y))
+    return first, finite(finite(s * x) + finite(c * y))
+
+
+@refusing
+def jacobi(n, rounds, a):
+    if not 0 <= rounds <= 64:
+        raise Stop(-8)
+    need_same_turned_about(n, a)
+    a = dict(zip([(i, j) for i in range(n) for j in range(n)], all_numbers(a), strict=True))
+    v = {(i, j): float(i == j) for i in range(n) for j in range(n)}
+    pairs = [(p, q) for p in range(n) for q in range(p + 1, n)]
+    for p, q in pairs * rounds:
+        if a[p, q] == 0:
+            continue
+        h = quotient(finite(a[q, q] - a[p, p]), finite(2 * a[p, q]))
+        g = root(finite(finite(h * h) + 1))
+        u = math.copysign(quotient(1, finite(abs(h) + g)), h)
+        c = quotient(1, root(finite(finite(u * u) + 1)))
+        s = finite(u * c)
+        for i in range(n):
+            a[i, p], a[i, q] = turned_pair(a[i, p], a[i, q], c, s)
+        for i in range(n):
+            a[p, i], a[q, i] = turned_pair(a[p, i], a[q, i], c, s)
+        a[p, q] = a[q, p] = 0.0
+        for i in range(n):
+            v[i, p], v[i, q] = turned_pair(v[i, p], v[i, q], c, s)
+    return [bits(a[i, i]) for i in range(n)] + [bits(v[i, j]) for i in range(n) for j in range(n)]
+
+
+def need_rising(x):
+    if any(not before < behind for before, behind in zip(x, x[1:])):
+        raise Stop(-8)
+
+
+@refusing
+def spline(n, x, y):
+    x, y = all_numbers(x), all_numbers(y)
+    need_rising(x)
+    answer = [0.0] * n
+    if n == 2:
+        return all_bits(answer)
+    h = [finite(x[i + 1] - x[i]) for i in range(n - 1)]
+    w = [quotient(finite(y[i + 1] - y[i]), h[i]) for i in range(n - 1)]
+    c, d = {0: 0.0}, {0: 0.0}
+    for i in range(1, n - 1):
+        m = finite(finite(2 * finite(h[i - 1] + h[i])) - finite(h[i - 1] * c[i - 1]))
+        c[i] = quotient(h[i], m)
+        d[i] = quotient(finite(finite(6 * finite(w[i] - w[i - 1])) - finite(h[i - 1] * d[i - 1])), m)
+    for i in reversed(range(1, n - 1)):
+        answer[i] = finite(d[i] - finite(c[i] * answer[i + 1]))
+    return all_bits(answer)
+
+
 EDGES = (
     0, SMALLEST, 2, 3, SMALLEST_NORMAL - 1, SMALLEST_NORMAL, SMALLEST_NORMAL + 1, 0x0020000000000000,
     0x1FF0000000000000, 0x1FF0000000000001, 0x2000000000000000, 0x3CA0000000000000, 0x3CA0000000000001,

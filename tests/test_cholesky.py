@@ -4,7 +4,7 @@ import unittest
 
 from bitmatrix.desk import cholesky
 from tests import native
-from tests.checks import check_kind, check_pure, check_same, drawn, placed
+from tests.checks import check_kind, check_pure, check_same, drawn, placed, same_turned_about
 from tests.native import (
     LARGEST, NEGATIVE_ZERO, NOT_FINITE, SMALLEST, SMALLEST_NORMAL, WRONG_SIZES, all_bits, bits, seeded,
 )
@@ -19,12 +19,6 @@ def made(n, numbers):
 
 def told(numbers):
     return [0] + all_bits(numbers)
-
-
-def same_turned_about(n, below):
-    """A table from its rows up to the diagonal."""
-    at = {(i, j): below[i * (i + 1) // 2 + j] for i in range(n) for j in range(i + 1)}
-    return [at[max(i, j), min(i, j)] for i in range(n) for j in range(n)]
 
 
 def of_rows(n, *below):
