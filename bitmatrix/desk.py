@@ -3,7 +3,7 @@
 from bitmatrix.columns import least_solution, make_upright
 from bitmatrix.double import is_finite, is_less, size_of
 from bitmatrix.refusals import NotFinite, OutOfRange, Refusal
-from bitmatrix.splines import second_derivatives
+from bitmatrix.splines import second_derivatives, value_at
 from bitmatrix.tables import columns_of, joined, product_table, rows_of, turned_about
 from bitmatrix.triangles import cholesky_rows, decompose, determinant, inverse_columns, solution
 from bitmatrix.turns import turn_all
@@ -169,5 +169,18 @@ def spline(n, x, y):
         check_finite(y)
         check_rising(x)
         return [0] + second_derivatives(x, y)
+    except Refusal as refusal:
+        return [refusal.number]
+
+
+def value(n, t, x, y, second):
+    try:
+        check_size(n, 2)
+        check_finite([t])
+        check_finite(x)
+        check_finite(y)
+        check_finite(second)
+        check_rising(x)
+        return [0, value_at(t, x, y, second)]
     except Refusal as refusal:
         return [refusal.number]

@@ -1,6 +1,6 @@
-"""What is made of points whose x rises: the second derivatives of a spline."""
+"""What is made of points whose x rises: the second derivatives of a spline, and its values."""
 
-from bitmatrix.double import TWO, add, divide, multiply, subtract
+from bitmatrix.double import TWO, add, divide, is_less, multiply, subtract
 
 SIX = 0x4018000000000000
 
@@ -33,3 +33,29 @@ def second_derivatives(xs, ys):
     for i in range(len(xs) - 2, 0, -1):
         seconds[i] = subtract(ds[i], multiply(cs[i], seconds[i + 1]))
     return seconds
+
+
+def stretch_at(xs, t):
+    """Which point begins the stretch: the last but the ends that isn't behind t, or the first."""
+    start = 0
+    for i in range(1, len(xs) - 1):
+        if not is_less(t, xs[i]):
+            start = i
+    return start
+
+
+def bent(a, second):
+    """(a a a - a) times the second derivative."""
+    cube = multiply(multiply(a, a), a)
+    return multiply(subtract(cube, a), second)
+
+
+def value_at(t, xs, ys, seconds):
+    i = stretch_at(xs, t)
+    h = subtract(xs[i + 1], xs[i])
+    a = divide(subtract(xs[i + 1], t), h)
+    b = divide(subtract(t, xs[i]), h)
+    bends = add(bent(a, seconds[i]), bent(b, seconds[i + 1]))
+    bend = divide(multiply(bends, multiply(h, h)), SIX)
+    line = add(multiply(a, ys[i]), multiply(b, ys[i + 1]))
+    return add(line, bend)

@@ -286,6 +286,23 @@ def spline(n, x, y):
     return all_bits(answer)
 
 
+@refusing
+def value(n, t, x, y, second):
+    t, x, y, second = number(t), all_numbers(x), all_numbers(y), all_numbers(second)
+    need_rising(x)
+    start = max([i for i in range(1, n - 1) if x[i] <= t], default=0)
+    (before, behind), (y0, y1), (s0, s1) = (row[start:start + 2] for row in (x, y, second))
+    h = finite(behind - before)
+    a = quotient(finite(behind - t), h)
+    b = quotient(finite(t - before), h)
+    square = finite(h * h)
+    first = finite(finite(finite(finite(a * a) * a) - a) * s0)
+    other = finite(finite(finite(finite(b * b) * b) - b) * s1)
+    bend = quotient(finite(finite(first + other) * square), 6)
+    line = finite(finite(a * y0) + finite(b * y1))
+    return [bits(finite(line + bend))]
+
+
 EDGES = (
     0, SMALLEST, 2, 3, SMALLEST_NORMAL - 1, SMALLEST_NORMAL, SMALLEST_NORMAL + 1, 0x0020000000000000,
     0x1FF0000000000000, 0x1FF0000000000001, 0x2000000000000000, 0x3CA0000000000000, 0x3CA0000000000001,

@@ -110,6 +110,30 @@ class Syntax(unittest.TestCase):
                 self.assertRegex(node.module, r"^bitmatrix\.[a-z_]+$")
                 self.assertNotIn("*", [part.name for part in node.names])
 
+    def test_imports_come_from_the_file_that_defines_the_name(self):
+        for name, node in nodes():
+            if isinstance(node, ast.ImportFrom):
+                path = PACKAGE / (node.module.split(".")[1] + ".py")
+                defined = []
+                for top in ast.parse(path.read_text("utf-8")).body:
+                    for part in [top, *getattr(top, "targets", [])]:
+                        defined.extend(bound_names(part))
+                for part in node.names:
+                    self.assertIn(part.name, defined, name)
+                    self.assertIsNone(part.asname, name)
+
+    def test_no_two_files_draw_from_one_another(self):
+        drawn = {}
+        for name, node in nodes():
+            drawn.setdefault(name, set())
+            if isinstance(node, ast.ImportFrom):
+                drawn[name].add(node.module.split(".")[1] + ".py")
+        while drawn:
+            ready = [name for name in drawn if not drawn[name] & set(drawn)]
+            self.assertTrue(ready, drawn)
+            for name in ready:
+                del drawn[name]
+
     def test_top_of_each_file(self):
         for path in sources():
             top = ast.parse(path.read_text("utf-8")).body
