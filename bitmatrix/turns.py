@@ -25,11 +25,11 @@ def second_turned(x, y, c, s):
 
 
 def turn_columns(rows, p, q, c, s):
-    for row in rows:
-        x = row[p]
-        y = row[q]
-        row[p] = first_turned(x, y, c, s)
-        row[q] = second_turned(x, y, c, s)
+    for i in range(len(rows)):
+        x = rows[i][p]
+        y = rows[i][q]
+        rows[i][p] = first_turned(x, y, c, s)
+        rows[i][q] = second_turned(x, y, c, s)
 
 
 def turn_rows(rows, p, q, c, s):
